@@ -1,4 +1,4 @@
-package array
+package array_test
 
 import (
 	"math/rand"
@@ -6,6 +6,7 @@ import (
 	"testing"
 
 	"silo/api"
+	. "silo/array"
 )
 
 // of is a sector of one letter.

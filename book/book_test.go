@@ -1,4 +1,4 @@
-package book
+package book_test
 
 import (
 	"math/rand"
@@ -7,6 +7,7 @@ import (
 	"testing"
 
 	"silo/api"
+	. "silo/book"
 	"silo/record"
 	"silo/slots"
 )

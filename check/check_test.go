@@ -1,8 +1,9 @@
-package check
+package check_test
 
 import (
 	"hash/crc64"
 	"math/rand"
+	. "silo/check"
 	"testing"
 )
 

@@ -1,4 +1,4 @@
-package code
+package code_test
 
 import (
 	"math/rand"
@@ -7,6 +7,7 @@ import (
 	"testing"
 
 	"silo/api"
+	. "silo/code"
 	"silo/field"
 	"silo/matrix"
 )

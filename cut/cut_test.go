@@ -1,4 +1,4 @@
-package cut
+package cut_test
 
 import (
 	"math/rand"
@@ -7,6 +7,7 @@ import (
 	"testing"
 
 	"silo/api"
+	. "silo/cut"
 )
 
 func text(r *rand.Rand, n int) string {

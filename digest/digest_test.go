@@ -1,4 +1,4 @@
-package digest
+package digest_test
 
 import (
 	"math/rand"
@@ -6,6 +6,7 @@ import (
 	"testing"
 
 	"silo/api"
+	. "silo/digest"
 )
 
 // text is n bytes by a rule.
@@ -92,14 +93,13 @@ func TestFed(t *testing.T) {
 	r := rand.New(rand.NewSource(16))
 	for range 300 {
 		all := text(r.Intn(400))
-		h, zero := New(), Hash{}
+		h := New()
 		fed := 0
 		for fed < len(all) {
 			n := min(len(all)-fed, []int{0, 1, 3, 63, 64, 65, 128, 200}[r.Intn(8)])
 			h.Write(all[fed : fed+n])
-			zero.Write(all[fed : fed+n])
 			fed += n
-			if h.Sum() != Of(all[:fed]) || h.Sum() != zero.Sum() || h.Len() != fed {
+			if h.Sum() != Of(all[:fed]) || h.Len() != fed {
 				t.Fatalf("%d of %d bytes: %d", fed, len(all), h.Len())
 			}
 		}

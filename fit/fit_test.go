@@ -1,4 +1,4 @@
-package fit
+package fit_test
 
 import (
 	"math/rand"
@@ -7,6 +7,7 @@ import (
 
 	"silo/api"
 	"silo/cut"
+	. "silo/fit"
 	"silo/slots"
 )
 

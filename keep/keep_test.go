@@ -1,4 +1,4 @@
-package keep
+package keep_test
 
 import (
 	"math/rand"
@@ -8,9 +8,10 @@ import (
 
 	"silo/api"
 	"silo/array"
-	"silo/book"
+	"silo/cut"
 	"silo/digest"
 	"silo/journal"
+	. "silo/keep"
 	"silo/manifest"
 	"silo/model"
 	"silo/pool"
@@ -118,12 +119,6 @@ func TestErrorsOfNewAndOpen(t *testing.T) {
 	if k, e := Open(a, api.Shape{}, 5); k != nil || e != api.ErrForm {
 		t.Errorf("no shape: %d", e)
 	}
-	zero := Keep{}
-	_, e1 := zero.Step()
-	_, e2 := zero.Balance()
-	if zero.Do(api.Op{Kind: api.OpStart}).Err != int(api.ErrState) || e1 != api.ErrState || e2 != api.ErrState || zero.Good()+zero.All()+zero.Free() != 0 || !same(zero.State(), api.State{}) {
-		t.Errorf("one that nobody made")
-	}
 }
 
 // TestOpenBad: what lies there is no state's, or cannot be read, or is not its digest's.
@@ -198,27 +193,22 @@ func TestLostTexts(t *testing.T) {
 	a.Lose(0)
 	a.Lose(1)
 	d := digest.Of("first")
-	before := k.state
+	before := k.State()
 	for i, row := range []struct {
 		o api.Op
 		r api.Reply
 	}{
-		{api.Op{Kind: api.OpGet, Digest: d}, api.Reply{Err: int(api.ErrLost)}}, {api.Op{Kind: api.OpRange, Digest: d, N: 1, M: 1}, api.Reply{Err: int(api.ErrLost)}}, {api.Op{Kind: api.OpRange, Digest: d, N: 9, M: 1}, api.Reply{Err: int(api.ErrForm)}},
+		{api.Op{Kind: api.OpGet, Digest: d}, api.Reply{Err: int(api.ErrLost)}}, {api.Op{Kind: api.OpRange, Digest: d, N: 1, M: 1}, api.Reply{Err: int(api.ErrLost)}},
 		{api.Op{Kind: api.OpStat, Digest: d}, api.Reply{N: 5}}, {api.Op{Kind: api.OpFind, Name: "a"}, api.Reply{Text: digest.Of(m)}}, {api.Op{Kind: api.OpGet, Digest: "x"}, api.Reply{Err: int(api.ErrNone)}},
-		{api.Op{Kind: api.OpDelete, Digest: d}, api.Reply{Err: int(api.ErrUsed)}}, {api.Op{}, api.Reply{Err: int(api.ErrForm)}}, {api.Op{Kind: 14}, api.Reply{Err: int(api.ErrForm)}},
+		{api.Op{Kind: api.OpDelete, Digest: d}, api.Reply{Err: int(api.ErrUsed)}}, {api.Op{}, api.Reply{Err: int(api.ErrForm)}}, {api.Op{Kind: 14}, api.Reply{Err: int(api.ErrForm)}}, {api.Op{Kind: -1}, api.Reply{Err: int(api.ErrForm)}},
 	} {
 		if r := k.Do(row.o); r != row.r {
 			t.Errorf("row %d: %v", i, r)
 		}
 	}
 	x := k.State()
-	if !same(k.state, before) || len(x.Things) != 2 {
-		t.Fatalf("something has changed")
-	}
-	for i, y := range x.Things {
-		if y.Digest == d && y.Text != "" || y.Manifest != k.state.Things[i].Manifest {
-			t.Errorf("thing %d: %q", i, y.Text)
-		}
+	if !same(x, before) || len(x.Things) != 2 || !slices.Contains(x.Things, api.Thing{Digest: d}) || len(x.Tags) != 1 {
+		t.Fatalf("what is kept: %v", x)
 	}
 	// Shards that are good each, and yet no text of that digest.
 	other, _ := shard.Sectors(api.Shard{Index: 0, Text: "other\x00\x00\x00\x00"})
@@ -233,77 +223,57 @@ func TestLostTexts(t *testing.T) {
 	if r := k.Do(api.Op{Kind: api.OpRange, Digest: d}); r != (api.Reply{Err: int(api.ErrBad)}) {
 		t.Errorf("range: %v", r)
 	}
-	for _, y := range k.State().Things {
-		if y.Text != "" && digest.Of(y.Text) != y.Digest {
-			t.Errorf("a text that is not its digest's: %q", y.Text)
-		}
-	}
 }
 
 // TestStuck: behind an error of the array nothing may be done but reading, until it is opened.
 func TestStuck(t *testing.T) {
 	s := api.Shape{K: 2, M: 1, Size: 9}
-	for way := range 4 {
-		a := disks(t, 4, s, 5)
-		k := fresh(t, a, s, 5)
+	m := bytes("first")
+	for way := range 5 {
+		a := disks(t, 4, s, 20)
+		k := fresh(t, a, s, 20)
 		upload(t, k, "first")
+		upload(t, k, "second")
+		want(t, "manifest", api.Errno(k.Do(api.Op{Kind: api.OpManifest, Text: m}).Err), api.OK)
+		want(t, "tag", api.Errno(k.Do(api.Op{Kind: api.OpTag, Name: "a", Digest: digest.Of(m)}).Err), api.OK)
 		r := k.Do(api.Op{Kind: api.OpStart})
 		a.Off(1)
 		want(t, "start, off", api.Errno(k.Do(api.Op{Kind: api.OpStart}).Err), api.OK)
-		e := api.OK
-		switch way {
-		case 0:
-			e = api.Errno(k.Do(api.Op{Kind: api.OpFinish, ID: r.N, Digest: digest.Of("")}).Err)
-		case 1:
-			e = api.Errno(k.Do(api.Op{Kind: api.OpSweep}).Err)
-		case 2:
-			e = api.Errno(k.Do(api.Op{Kind: api.OpManifest, Text: bytes("first")}).Err)
-		default:
-			a.Off(-1)
-			a.Replace(0)
-			a.Off(1)
-			for range 3 {
-				if _, f := k.Step(); f != api.OK {
-					e = f
-				}
-			}
+		deeds := []api.Op{
+			{Kind: api.OpFinish, ID: r.N, Digest: digest.Of("")}, {Kind: api.OpManifest, Text: bytes("second")}, {Kind: api.OpTag, Name: "b", Digest: digest.Of(m)},
+			{Kind: api.OpUntag, Name: "a"}, {Kind: api.OpDelete, Digest: digest.Of("second")}, {Kind: api.OpSweep},
+			{Kind: api.OpStart}, {Kind: api.OpChunk, ID: r.N, Text: "x"}, {Kind: api.OpAbort, ID: r.N},
 		}
-		if way != 3 || e != api.ErrState {
-			want(t, "off", e, api.ErrOff)
-		}
-		before := k.state
+		want(t, "off", api.Errno(k.Do(deeds[way]).Err), api.ErrOff)
 		if g := k.Do(api.Op{Kind: api.OpGet, Digest: digest.Of("first")}); g != (api.Reply{Err: int(api.ErrLost)}) {
 			t.Errorf("way %d: get, off: %v", way, g)
 		}
 		a.Crash([]int{1})
-		for kind := api.OpStart; kind <= api.OpAbort; kind++ {
-			g := k.Do(api.Op{Kind: kind, ID: r.N, Digest: digest.Of("first"), Name: "a"})
-			switch kind {
-			case api.OpGet:
-				if g.Text != "first" || g.Err != 0 {
-					t.Errorf("way %d: get: %v", way, g)
-				}
-			case api.OpStat, api.OpRange:
-				if g.Err != 0 {
-					t.Errorf("way %d: kind %d: %v", way, kind, g)
-				}
-			case api.OpFind:
-				want(t, "find", api.Errno(g.Err), api.ErrNone)
-			default:
-				if g != (api.Reply{Err: int(api.ErrState)}) {
-					t.Errorf("way %d: kind %d: %v", way, kind, g)
-				}
+		before := k.State()
+		for i, o := range deeds {
+			if g := k.Do(o); g != (api.Reply{Err: int(api.ErrState)}) {
+				t.Errorf("way %d, deed %d: %v", way, i, g)
 			}
 		}
-		if _, e := k.Step(); e != api.ErrState {
-			t.Errorf("way %d: step: %d", way, e)
+		for i, row := range []struct {
+			o api.Op
+			r api.Reply
+		}{
+			{api.Op{Kind: api.OpGet, Digest: digest.Of("first")}, api.Reply{Text: "first"}}, {api.Op{Kind: api.OpRange, Digest: digest.Of("first"), N: 1, M: 3}, api.Reply{Text: "irs"}},
+			{api.Op{Kind: api.OpStat, Digest: digest.Of("second")}, api.Reply{N: 6}}, {api.Op{Kind: api.OpFind, Name: "a"}, api.Reply{Text: digest.Of(m)}}, {api.Op{Kind: api.OpFind, Name: "b"}, api.Reply{Err: int(api.ErrNone)}},
+		} {
+			if g := k.Do(row.o); g != row.r {
+				t.Errorf("way %d, reading %d: %v", way, i, g)
+			}
 		}
-		if !same(k.state, before) {
-			t.Errorf("way %d: something has changed", way)
+		_, e1 := k.Step()
+		_, e2 := k.Balance()
+		if e1 != api.ErrState || e2 != api.ErrState || !same(k.State(), before) || len(before.Sessions) != 2 {
+			t.Errorf("way %d: %d, %d", way, e1, e2)
 		}
-		k, e = Open(a, s, 5)
+		k, e := Open(a, s, 20)
 		want(t, "open", e, api.OK)
-		want(t, "opened", api.Errno(k.Do(api.Op{Kind: api.OpStart}).Err), api.OK)
+		want(t, "opened", api.Errno(k.Do(api.Op{Kind: api.OpSweep}).Err), api.OK)
 	}
 }
 
@@ -317,33 +287,42 @@ func TestPoolsErrors(t *testing.T) {
 		k.Do(api.Op{Kind: api.OpChunk, ID: r.N, Text: text})
 		return k.Do(api.Op{Kind: api.OpFinish, ID: r.N, Digest: digest.Of(text)})
 	}
-	if r := finish(strings.Repeat("x", 16)); r.N != 16 || r.Err != 0 {
+	// Three stripes at most: two of these, none of those.
+	x, y := strings.Repeat("x", 16), strings.Repeat("y", 16)
+	if r := finish(x); r != (api.Reply{N: 16}) {
 		t.Errorf("finish: %v", r)
 	}
 	before := k.State()
-	if r := finish(strings.Repeat("y", 16)); r != (api.Reply{Err: int(api.ErrFull)}) {
+	if r := finish(y); r != (api.Reply{Err: int(api.ErrFull)}) {
 		t.Errorf("full: %v", r)
 	}
-	if r := finish(strings.Repeat("x", 16)); r.N != 16 || r.Err != 0 {
-		t.Errorf("it is there: %v", r)
+	if r := k.Do(api.Op{Kind: api.OpManifest, Text: bytes(x)}); r != (api.Reply{Err: int(api.ErrFull)}) {
+		t.Errorf("a manifest, full: %v", r)
 	}
 	if r := k.Do(api.Op{Kind: api.OpManifest, Text: bytes("y")}); r != (api.Reply{Err: int(api.ErrNone)}) {
 		t.Errorf("the model's errors first: %v", r)
 	}
-	if r := k.Do(api.Op{Kind: api.OpManifest, Text: bytes()}); r.Err != 0 && r != (api.Reply{Err: int(api.ErrFull)}) {
-		t.Errorf("manifest: %v", r)
+	if r := finish(x); r != (api.Reply{N: 16}) {
+		t.Errorf("it is there: %v", r)
 	}
+	if s := k.State(); !slices.Equal(s.Things, before.Things) || len(s.Sessions) != 1 || s.Sessions[0].Text != y {
+		t.Errorf("the session stays: %v", s.Sessions)
+	}
+	if r := finish("z"); r != (api.Reply{N: 1}) {
+		t.Errorf("it fits: %v", r)
+	}
+	// Five disks of which two live: too few for a stripe, and for the journal.
 	a.Lose(0)
 	a.Lose(1)
-	if r := finish("z"); r.Err != 0 && r != (api.Reply{Err: int(api.ErrFull)}) {
-		t.Errorf("three live: %v", r)
-	}
 	a.Lose(2)
 	if r := finish("w"); r != (api.Reply{Err: int(api.ErrFew)}) {
 		t.Errorf("few: %v", r)
 	}
-	if len(k.State().Sessions) != 3 && len(k.State().Sessions) != 2 || len(k.State().Things) < len(before.Things) {
-		t.Errorf("sessions stay: %v", k.State().Sessions)
+	if r := k.Do(api.Op{Kind: api.OpSweep}); r != (api.Reply{Err: int(api.ErrFew)}) {
+		t.Errorf("sweep, few: %v", r)
+	}
+	if s := k.State(); len(s.Things) != 2 || len(s.Sessions) != 2 {
+		t.Errorf("nothing has changed: %v", s.Sessions)
 	}
 }
 
@@ -520,27 +499,30 @@ func (x *try) picks() []int {
 	return l
 }
 
-// mend does as many steps as there are pieces, where there is room: T4.
-func (x *try) mend(t *testing.T) {
-	t.Helper()
-	live := 0
+// live is how many disks live.
+func (x *try) live() int {
+	n := 0
 	for d := range x.a.Disks() {
 		if x.a.Live(d) {
-			live++
+			n++
 		}
 	}
+	return n
+}
+
+// mend does as many steps as there are pieces: T4. No disk has a slot of a stripe more than once.
+func (x *try) mend(t *testing.T) {
+	t.Helper()
 	stripes := x.k.All() / (x.s.K + x.s.M)
-	room := live >= x.s.K+x.s.M
-	for d, free := range x.k.p.Slots().Free {
-		room = room && (len(free) >= stripes || !x.a.Live(d))
-	}
 	for range x.k.All() {
 		if _, e := x.k.Step(); e != api.OK {
 			t.Fatalf("step: %d", e)
 		}
 	}
-	if room && x.k.Good() != x.k.All() {
-		t.Fatalf("%d of %d good", x.k.Good(), x.k.All())
+	if x.live() >= x.s.K+x.s.M && x.n >= 2*stripes {
+		if x.k.Good() != x.k.All() || x.k.Free() != x.live()*x.n-x.k.All() {
+			t.Fatalf("%d of %d good, %d free", x.k.Good(), x.k.All(), x.k.Free())
+		}
 	}
 	if _, e := x.k.Balance(); e != api.OK {
 		t.Fatalf("balance: %d", e)
@@ -550,17 +532,21 @@ func (x *try) mend(t *testing.T) {
 	}
 }
 
-// swept holds what is kept, and which slots are taken, against T5.
+// swept sweeps, and holds what is kept against T5.
 func (x *try) swept(t *testing.T) {
 	t.Helper()
 	r := x.k.Do(api.Op{Kind: api.OpSweep})
 	next, want, _ := model.Do(x.state, api.Op{Kind: api.OpSweep})
 	x.state = next
-	b := x.k.p.Book()
-	free, _ := book.Free(x.s, b)
-	if r != want || !same(x.k.State(), next) || len(free) != 0 || book.Check(x.s, b) != api.OK {
-		t.Fatalf("sweep: %v, not %v, %v", r, want, free)
+	pieces := 0
+	for _, y := range next.Things {
+		n, _ := cut.Stripes(x.s, len(y.Text))
+		pieces += n * (x.s.K + x.s.M)
 	}
+	if r != want || !same(x.k.State(), next) || x.k.All() != pieces {
+		t.Fatalf("sweep: %v, not %v, %d pieces", r, want, x.k.All())
+	}
+	x.mend(t)
 }
 
 // TestTheorems plays stores beside the model.

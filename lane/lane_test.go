@@ -1,4 +1,4 @@
-package lane
+package lane_test
 
 import (
 	"math/rand"
@@ -7,6 +7,7 @@ import (
 
 	"silo/api"
 	"silo/field"
+	. "silo/lane"
 )
 
 // some is n bytes picked by r.

@@ -1,4 +1,4 @@
-package manifest
+package manifest_test
 
 import (
 	"math/rand"
@@ -8,6 +8,7 @@ import (
 
 	"silo/api"
 	"silo/digest"
+	. "silo/manifest"
 )
 
 func dig(c byte) string {

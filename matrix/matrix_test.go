@@ -1,4 +1,4 @@
-package matrix
+package matrix_test
 
 import (
 	"math/rand"
@@ -8,6 +8,7 @@ import (
 
 	"silo/api"
 	"silo/field"
+	. "silo/matrix"
 )
 
 func some(r *rand.Rand, rows, cols int) api.Matrix {

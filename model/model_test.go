@@ -1,4 +1,4 @@
-package model
+package model_test
 
 import (
 	"math/rand"
@@ -9,10 +9,21 @@ import (
 	"silo/api"
 	"silo/digest"
 	"silo/manifest"
+	. "silo/model"
 )
 
 func same(a, b api.State) bool {
 	return slices.Equal(a.Things, b.Things) && slices.Equal(a.Tags, b.Tags) && slices.Equal(a.Sessions, b.Sessions) && a.Next == b.Next
+}
+
+// copied is a state of its own memory.
+func copied(s api.State) api.State {
+	return api.State{Things: slices.Clone(s.Things), Tags: slices.Clone(s.Tags), Sessions: slices.Clone(s.Sessions), Next: s.Next}
+}
+
+// manifested asks whether a state has a manifest of that digest.
+func manifested(s api.State, d string) bool {
+	return slices.ContainsFunc(s.Things, func(x api.Thing) bool { return x.Digest == d && x.Manifest })
 }
 
 // bytes is the bytes of a manifest that names blobs, and manifests.
@@ -256,7 +267,7 @@ func TestWhatComesMayBe(t *testing.T) {
 			m, _ := manifest.Sorted(api.Manifest{Kind: r.Intn(3), Blobs: []string{digest.Of("xx")}})
 			for range r.Intn(3) {
 				if d := pick(); len(d) == 32 {
-					if is(s, d, true) {
+					if manifested(s, d) {
 						m.Subs = append(m.Subs, d)
 					} else {
 						m.Blobs = append(m.Blobs, d)

@@ -1,4 +1,4 @@
-package names
+package names_test
 
 import (
 	"math/rand"
@@ -8,6 +8,7 @@ import (
 	"testing"
 
 	"silo/api"
+	. "silo/names"
 )
 
 // shape is what a name is, by another way.

@@ -1,4 +1,4 @@
-package place
+package place_test
 
 import (
 	"math/rand"
@@ -6,6 +6,7 @@ import (
 	"testing"
 
 	"silo/api"
+	. "silo/place"
 	"silo/slots"
 )
 

@@ -1,4 +1,4 @@
-package pool
+package pool_test
 
 import (
 	"maps"
@@ -15,6 +15,7 @@ import (
 	"silo/fit"
 	"silo/journal"
 	"silo/place"
+	. "silo/pool"
 	"silo/shard"
 	"silo/slots"
 )
@@ -42,7 +43,7 @@ func disks(t *testing.T, many int, s api.Shape, n int) *array.Array {
 	return a
 }
 
-func made2(t *testing.T, a *array.Array, s api.Shape, n int) *Pool {
+func made(t *testing.T, a *array.Array, s api.Shape, n int) *Pool {
 	t.Helper()
 	p, e := New(a, s, n)
 	if p == nil || e != api.OK {
@@ -58,6 +59,30 @@ func opened(t *testing.T, a *array.Array, s api.Shape, n int) *Pool {
 		t.Fatalf("open: %d", e)
 	}
 	return p
+}
+
+// stripe is the pool's stripe with an ID.
+func stripe(t *testing.T, p *Pool, id int) api.Stripe {
+	t.Helper()
+	b := p.Book()
+	i := slices.IndexFunc(b.Stripes, func(x api.Stripe) bool { return x.ID == id })
+	if i < 0 {
+		t.Fatalf("no stripe %d", id)
+	}
+	return b.Stripes[i]
+}
+
+// sectors is what lies at a slot.
+func sectors(t *testing.T, a *array.Array, s api.Shape, at api.Slot) []string {
+	t.Helper()
+	many, _ := shard.Count(s.Size)
+	l := []string{}
+	for i := range many {
+		x, e := a.Read(at.Disk, api.Area+at.At*many+i)
+		want(t, "read", e, api.OK)
+		l = append(l, x)
+	}
+	return l
 }
 
 // of is the record of a text.
@@ -91,7 +116,7 @@ func TestErrorsOfNewAndOpen(t *testing.T) {
 		want api.Errno
 	}{
 		{nil, s, 10, api.ErrForm}, {six, api.Shape{}, 10, api.ErrForm}, {six, api.Shape{K: 9, M: 1, Size: 5}, 10, api.ErrForm}, {six, s, 0, api.ErrForm}, {six, s, 65, api.ErrForm}, {six, s, -1, api.ErrForm}, {six, s, 1 << 62, api.ErrForm},
-		{&array.Array{}, s, 1, api.ErrFew}, {six, api.Shape{K: 6, M: 1, Size: 5}, 5, api.ErrFew}, {six, s, 11, api.ErrFull}, {six, api.Shape{K: 2, M: 1, Size: 110}, 10, api.ErrFull},
+		{six, api.Shape{K: 6, M: 1, Size: 5}, 5, api.ErrFew}, {six, s, 11, api.ErrFull}, {six, api.Shape{K: 2, M: 1, Size: 110}, 10, api.ErrFull},
 		// 12 disks times 29, by 3, times 45 and 24: 116 times 69 is 8004.
 		{disks(t, 12, s, 29), s, 29, api.ErrForm}, {disks(t, 12, s, 28), s, 28, api.OK}, {disks(t, 12, s, 29), api.Shape{K: 1, M: 0, Size: 5}, 12, api.OK}, {disks(t, 12, s, 29), api.Shape{K: 1, M: 0, Size: 5}, 13, api.ErrForm},
 		{disks(t, 11, s, 40), api.Shape{K: 8, M: 6, Size: 5}, 60, api.ErrFew},
@@ -129,12 +154,6 @@ func TestErrorsOfNewAndOpen(t *testing.T) {
 	if p, e := Open(six, s, 10); p != nil || e != api.ErrBad {
 		t.Errorf("no book that may be: %d", e)
 	}
-	zero := Pool{}
-	_, e1 := zero.Step()
-	_, e2 := zero.Balance()
-	if zero.Good() != 0 || zero.All() != 0 || len(zero.Slots().Live) != 0 || zero.Add("", of("")) != api.ErrState || zero.Drop("x") != api.ErrState || e1 != api.ErrState || e2 != api.ErrState {
-		t.Errorf("one that nobody made")
-	}
 }
 
 // TestAdd: shards lie where fit tells, as the words say; the book tells of them, and the text is back.
@@ -142,7 +161,7 @@ func TestAdd(t *testing.T) {
 	r := rand.New(rand.NewSource(44))
 	for _, s := range []api.Shape{{K: 1, M: 0, Size: 9}, {K: 2, M: 1, Size: 50}, {K: 3, M: 2, Size: 120}, {K: 1, M: 2, Size: 3}} {
 		a := disks(t, 7, s, 9)
-		p := made2(t, a, s, 9)
+		p := made(t, a, s, 9)
 		for _, n := range []int{0, 1, s.K * s.Size, s.K*s.Size + 1, 3*s.K*s.Size - 1} {
 			x := text(r, n)
 			places, _, e := fit.Text(s, p.Slots(), n)
@@ -157,8 +176,9 @@ func TestAdd(t *testing.T) {
 			}
 			want(t, "add", p.Add(x, rec), api.OK)
 			b := p.Book()
-			if y, e := p.Text(rec.Digest); y != x || e != api.OK || a.Dirty() != 0 {
-				t.Fatalf("%v, %d bytes: %d, %d dirty", s, n, e, a.Dirty())
+			a.Crash(nil)
+			if y, e := p.Text(rec.Digest); y != x || e != api.OK {
+				t.Fatalf("%v, %d bytes: %d", s, n, e)
 			}
 			if book.Check(s, b) != api.OK || len(b.Stripes) != len(before.Stripes)+len(places) || b.Next != before.Next+len(places) || len(b.Things) != len(before.Things)+1 {
 				t.Fatalf("%v, %d bytes: the book", s, n)
@@ -169,12 +189,13 @@ func TestAdd(t *testing.T) {
 			}
 			parts, _ := cut.Parts(s, x)
 			for k, id := range b.Things[i].List {
-				if id != before.Next+k || !slices.Equal(p.stripe(id).Place, places[k]) || p.stripe(id).Gen != 0 || p.stripe(id).Len != len(parts[k]) {
-					t.Errorf("%v, %d bytes: stripe %v", s, n, p.stripe(id))
+				y := stripe(t, p, id)
+				if id != before.Next+k || !slices.Equal(y.Place, places[k]) || y.Gen != 0 || y.Len != len(parts[k]) {
+					t.Errorf("%v, %d bytes: stripe %v", s, n, y)
 				}
 				lanes, _ := cut.Lanes(s, parts[k])
 				for at := range s.K {
-					l := p.sectors(places[k][at])
+					l := sectors(t, a, s, places[k][at])
 					if sh, e := shard.Take(l); e != api.OK || sh != (api.Shard{Stripe: id, Index: at, Text: lanes[at]}) {
 						t.Errorf("%v: shard %v, %d", s, sh, e)
 					}
@@ -194,7 +215,7 @@ func TestAdd(t *testing.T) {
 func TestErrorsOfAdd(t *testing.T) {
 	s := api.Shape{K: 2, M: 1, Size: 4}
 	a := disks(t, 4, s, 3)
-	p := made2(t, a, s, 3)
+	p := made(t, a, s, 3)
 	for i, row := range []struct {
 		t string
 		r api.Record
@@ -220,7 +241,7 @@ func TestErrorsOfAdd(t *testing.T) {
 	want(t, "behind that", p.Add("", of("")), api.ErrState)
 
 	a = disks(t, 3, s, 3)
-	p = made2(t, a, s, 3)
+	p = made(t, a, s, 3)
 	for i := range api.MaxThings {
 		want(t, "empty ones", p.Add("", api.Record{Kind: api.RecBlob, Digest: digest.Of(string([]byte{byte(i)}))}), api.OK)
 	}
@@ -230,9 +251,11 @@ func TestErrorsOfAdd(t *testing.T) {
 	j, _ := journal.New(a)
 	want(t, "journal", j.Add(api.Record{Kind: api.RecPrepare, ID: api.MaxGen - 3, Slots: []api.Slot{{}}}), api.OK)
 	p = opened(t, a, s, 3)
-	want(t, "IDs", p.Add(strings.Repeat("x", 17), of(strings.Repeat("x", 17))), api.ErrLimit)
-	want(t, "IDs", p.Add(strings.Repeat("x", 16), of(strings.Repeat("x", 16))), api.OK)
-	want(t, "no ID is left", p.Add("x", of("x")), api.ErrLimit)
+	// IDs from MaxGen - 2 on are left.
+	x, y := strings.Repeat("x", 25), strings.Repeat("x", 16)
+	want(t, "IDs", p.Add(x, of(x)), api.ErrLimit)
+	want(t, "IDs", p.Add(y, of(y)), api.OK)
+	want(t, "no IDs are left", p.Add(y[1:], of(y[1:])), api.ErrLimit)
 	want(t, "none is asked for", p.Add("", of("")), api.OK)
 	if q := opened(t, a, s, 3); q.Book().Next != api.MaxGen {
 		t.Errorf("next: %d", q.Book().Next)
@@ -242,7 +265,7 @@ func TestErrorsOfAdd(t *testing.T) {
 func TestBehindAnError(t *testing.T) {
 	s := api.Shape{K: 2, M: 1, Size: 4}
 	a := disks(t, 4, s, 3)
-	p := made2(t, a, s, 3)
+	p := made(t, a, s, 3)
 	want(t, "add", p.Add("ab", of("ab")), api.OK)
 	a.Off(1)
 	want(t, "off", p.Add("xyz", of("xyz")), api.ErrOff)
@@ -255,10 +278,9 @@ func TestBehindAnError(t *testing.T) {
 	a.Crash(nil)
 	before := p.Book()
 	want(t, "form ahead", p.Add("x", of("")), api.ErrForm)
-	want(t, "form ahead", p.Note(api.Record{}), api.ErrForm)
 	_, e1 := p.Step()
 	_, e2 := p.Balance()
-	for i, e := range []api.Errno{p.Add("ab", of("ab")), p.Note(api.Record{Kind: api.RecTag, Name: "a", Digest: digest.Of("ab")}), p.Drop(digest.Of("ab")), e1, e2} {
+	for i, e := range []api.Errno{p.Add("ab", of("ab")), p.Add("", of("")), e1, e2} {
 		if e != api.ErrState {
 			t.Errorf("call %d: %d", i, e)
 		}
@@ -268,19 +290,27 @@ func TestBehindAnError(t *testing.T) {
 	}
 	p = opened(t, a, s, 3)
 	want(t, "opened", p.Add("xyz", of("xyz")), api.OK)
-	// With power off, a step reads nothing that is good, and does nothing.
+	tag := api.Record{Kind: api.RecTag, Name: "a", Digest: digest.Of("ab")}
 	a.Off(0)
-	if is, e := p.Step(); is || e != api.OK {
-		t.Errorf("step, off: %v, %d", is, e)
-	}
+	want(t, "note, off", p.Note(tag), api.ErrOff)
 	a.Crash(nil)
-	want(t, "and goes on", p.Drop(digest.Of("ab")), api.OK)
+	_, e1 = p.Step()
+	_, e2 = p.Balance()
+	for i, e := range []api.Errno{p.Add("c", of("c")), p.Note(tag), p.Drop(digest.Of("ab")), e1, e2} {
+		if e != api.ErrState {
+			t.Errorf("behind the journal's error, call %d: %d", i, e)
+		}
+	}
+	if len(p.Book().Tags) != 0 {
+		t.Errorf("tags: %v", p.Book().Tags)
+	}
+	want(t, "opened", opened(t, a, s, 3).Note(tag), api.OK)
 }
 
 func TestNote(t *testing.T) {
 	s := api.Shape{K: 1, M: 0, Size: 4}
 	a := disks(t, 3, s, 3)
-	p := made2(t, a, s, 3)
+	p := made(t, a, s, 3)
 	tag := func(name string) api.Record {
 		return api.Record{Kind: api.RecTag, Name: name, Digest: digest.Of(name)}
 	}
@@ -302,28 +332,22 @@ func TestNote(t *testing.T) {
 		l = append(l, tag("t"+string([]byte{byte(i + 1)})))
 	}
 	want(t, "too many", p.Note(l...), api.ErrLimit)
-	want(t, "none ahead of too many", p.Note(append(l, untag("x"))...), api.ErrNone)
-	want(t, "just as many in the end", p.Note(append(l, untag("b"))...), api.OK)
+	if len(p.Book().Tags) != 2 {
+		t.Errorf("tags: %d", len(p.Book().Tags))
+	}
+	want(t, "just as many", p.Note(append([]api.Record{untag("b")}, l...)...), api.OK)
+	want(t, "one more", p.Note(tag("b")), api.ErrLimit)
 	want(t, "in the place of one", p.Note(tag("c")), api.OK)
 	if len(p.Book().Tags) != 40 {
 		t.Errorf("tags: %d", len(p.Book().Tags))
 	}
-	// More than the journal takes at once, and more than it has room for.
-	for _, n := range []int{1999, 2001, 5000} {
-		many := slices.Repeat([]api.Record{tag("c"), untag("c")}, n/2+1)[:n]
-		if n%2 == 0 {
-			many = many[1:]
-		}
-		many = append(many, tag("c"))
-		if n%2 == 0 {
-			want(t, "none ends it", p.Note(many...), api.OK)
-		} else {
-			want(t, "many", p.Note(many...), api.OK)
-		}
-		if q := opened(t, a, s, 3); !same(q.Book(), p.Book()) || len(p.Book().Tags) != 40 {
-			t.Errorf("%d records: %d tags", n, len(q.Book().Tags))
-		}
-		p = opened(t, a, s, 3)
+	// More than the journal has room for, by and by.
+	many := slices.Repeat([]api.Record{untag("c"), tag("c")}, 200)
+	for range 9 {
+		want(t, "many", p.Note(many...), api.OK)
+	}
+	if q := opened(t, a, s, 3); !same(q.Book(), p.Book()) || len(p.Book().Tags) != 40 {
+		t.Errorf("opened: %d tags", len(q.Book().Tags))
 	}
 }
 
@@ -331,7 +355,7 @@ func TestDrop(t *testing.T) {
 	r := rand.New(rand.NewSource(45))
 	s := api.Shape{K: 2, M: 1, Size: 10}
 	a := disks(t, 5, s, 9)
-	p := made2(t, a, s, 9)
+	p := made(t, a, s, 9)
 	texts := []string{}
 	for _, n := range []int{0, 5, 50, 70} {
 		x := text(r, n)
@@ -369,7 +393,7 @@ func TestJournalIsNeverFull(t *testing.T) {
 	r := rand.New(rand.NewSource(46))
 	s := api.Shape{K: 1, M: 1, Size: 20}
 	a := disks(t, 4, s, 20)
-	p := made2(t, a, s, 20)
+	p := made(t, a, s, 20)
 	last := ""
 	for i := range 500 {
 		x := text(r, 400)
@@ -398,7 +422,7 @@ func TestJournalIsNeverFull(t *testing.T) {
 func TestGood(t *testing.T) {
 	s := api.Shape{K: 2, M: 2, Size: 10}
 	a := disks(t, 4, s, 2)
-	p := made2(t, a, s, 2)
+	p := made(t, a, s, 2)
 	want(t, "add", p.Add("hello", of("hello")), api.OK)
 	for i, x := range []api.Shard{{Stripe: 1, Index: 0, Text: "0123456789"}, {Index: 1, Text: "0123456789"}, {Gen: 1, Index: 0, Text: "0123456789"}, {Index: 0, Text: "012345678"}} {
 		l, _ := shard.Sectors(x)
@@ -440,7 +464,7 @@ func TestSteps(t *testing.T) {
 		s := api.Shape{K: 1 + r.Intn(3), M: 1 + r.Intn(3), Size: 1 + r.Intn(30)}
 		many := s.K + s.M + r.Intn(4)
 		a := disks(t, many, s, 16)
-		p := made2(t, a, s, 16)
+		p := made(t, a, s, 16)
 		texts := []string{}
 		for range 3 {
 			x := text(r, r.Intn(2*s.K*s.Size))
@@ -484,7 +508,8 @@ func TestSteps(t *testing.T) {
 				wrote++
 			}
 		}
-		if p.Good() != p.All() || a.Dirty() != 0 || (wrote > 0) != (bad > 0) {
+		a.Crash(nil)
+		if p.Good() != p.All() || (wrote > 0) != (bad > 0) {
 			t.Fatalf("round %d: %d of %d good, %d steps wrote", round, p.Good(), p.All(), wrote)
 		}
 		b := p.Book()
@@ -517,13 +542,13 @@ func TestSteps(t *testing.T) {
 func TestStepGoesRound(t *testing.T) {
 	s := api.Shape{K: 1, M: 1, Size: 4}
 	a := disks(t, 3, s, 6)
-	p := made2(t, a, s, 6)
+	p := made(t, a, s, 6)
 	if is, e := p.Step(); is || e != api.OK {
 		t.Errorf("of no stripes: %v, %d", is, e)
 	}
 	want(t, "add", p.Add("abcdefgh", of("abcdefgh")), api.OK)
 	// Stripe 0 lies on disks 0 and 1, stripe 1 on 2 and 0.
-	if x, y := p.stripe(0).Place, p.stripe(1).Place; x[1].Disk != 1 || y[0].Disk != 2 {
+	if x, y := stripe(t, p, 0).Place, stripe(t, p, 1).Place; x[1].Disk != 1 || y[0].Disk != 2 {
 		t.Fatalf("%v, %v", x, y)
 	}
 	a.Replace(2)
@@ -549,7 +574,7 @@ func TestStepGoesRound(t *testing.T) {
 func TestBalance(t *testing.T) {
 	s := api.Shape{K: 1, M: 1, Size: 4}
 	a := disks(t, 4, s, 6)
-	p := made2(t, a, s, 6)
+	p := made(t, a, s, 6)
 	a.Lose(3)
 	want(t, "add", p.Add("abcdefghijklmnopqrst", of("abcdefghijklmnopqrst")), api.OK)
 	if is, e := p.Balance(); is || e != api.OK {
@@ -568,8 +593,9 @@ func TestBalance(t *testing.T) {
 			break
 		}
 		y, _, _ := place.Moved(s, before.Stripes[slices.IndexFunc(before.Stripes, func(x api.Stripe) bool { return x.ID == n.Stripe })], n)
-		if !slices.Equal(p.stripe(n.Stripe).Place, y.Place) || p.Good() != p.All() {
-			t.Fatalf("moved: %v", p.stripe(n.Stripe))
+		a.Crash(nil)
+		if !slices.Equal(stripe(t, p, n.Stripe).Place, y.Place) || p.Good() != p.All() {
+			t.Fatalf("moved: %v", stripe(t, p, n.Stripe))
 		}
 		moved++
 	}
@@ -581,19 +607,20 @@ func TestBalance(t *testing.T) {
 	}
 	// A shard that is not good stays where it is.
 	a = disks(t, 3, s, 6)
-	p = made2(t, a, s, 6)
+	p = made(t, a, s, 6)
 	a.Lose(2)
 	want(t, "add", p.Add("abcdefgh", of("abcdefgh")), api.OK)
 	a.Replace(2)
 	a.Flip(0, 8*64*api.Area)
-	if is, e := p.Balance(); is || e != api.OK || a.Dirty() != 0 {
+	before := p.Book()
+	if is, e := p.Balance(); is || e != api.OK || !same(p.Book(), before) {
 		t.Errorf("not good: %v, %d", is, e)
 	}
 }
 
 func TestBookIsACopy(t *testing.T) {
 	s := api.Shape{K: 1, M: 1, Size: 4}
-	p := made2(t, disks(t, 3, s, 6), s, 6)
+	p := made(t, disks(t, 3, s, 6), s, 6)
 	want(t, "add", p.Add("ab", of("ab")), api.OK)
 	want(t, "tag", p.Note(api.Record{Kind: api.RecTag, Name: "a", Digest: digest.Of("ab")}), api.OK)
 	b, before := p.Book(), p.Book()
@@ -616,7 +643,7 @@ func TestCrashes(t *testing.T) {
 		many := s.K + s.M + r.Intn(3)
 		f := min(s.M, (many-1)/2)
 		a := disks(t, many, s, 12)
-		p := made2(t, a, s, 12)
+		p := made(t, a, s, 12)
 		texts := map[string]string{}
 		for step := range 12 {
 			for d := range f {
@@ -688,21 +715,29 @@ func TestCrashes(t *testing.T) {
 				}
 			}
 			p = q
-			live := 0
-			for d := range many {
-				if a.Live(d) {
-					live++
-				}
-			}
-			if live >= s.K+s.M && r.Intn(2) == 0 {
-				for range p.All() {
-					_, e := p.Step()
-					want(t, "step", e, api.OK)
-				}
-				if n, _ := slots.Count(p.Slots()); p.Good() != p.All() && n > many*11 {
-					t.Fatalf("round %d, step %d: %d of %d good", round, step, p.Good(), p.All())
-				}
+			if r.Intn(2) == 0 {
+				mend(t, p, s)
 			}
 		}
+	}
+}
+
+// mend does as many steps as there are pieces: where there is room, all are good behind them.
+func mend(t *testing.T, p *Pool, s api.Shape) {
+	t.Helper()
+	x, stripes, live := p.Slots(), len(p.Book().Stripes), 0
+	room := true
+	for d, is := range x.Live {
+		if is {
+			live++
+			room = room && len(x.Free[d]) >= stripes
+		}
+	}
+	for range p.All() {
+		_, e := p.Step()
+		want(t, "step", e, api.OK)
+	}
+	if room && live >= s.K+s.M && p.Good() != p.All() {
+		t.Fatalf("%d of %d good", p.Good(), p.All())
 	}
 }

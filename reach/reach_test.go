@@ -1,4 +1,4 @@
-package reach
+package reach_test
 
 import (
 	"math/rand"
@@ -8,6 +8,7 @@ import (
 
 	"silo/api"
 	"silo/manifest"
+	. "silo/reach"
 )
 
 func dig(c byte) string {

@@ -1,4 +1,4 @@
-package record
+package record_test
 
 import (
 	"hash/crc64"
@@ -8,6 +8,7 @@ import (
 	"testing"
 
 	"silo/api"
+	. "silo/record"
 )
 
 // same holds two records against each other: a nil list is as an empty one.

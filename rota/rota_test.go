@@ -1,10 +1,11 @@
-package rota
+package rota_test
 
 import (
 	"slices"
 	"testing"
 
 	"silo/api"
+	. "silo/rota"
 )
 
 func shape() api.Shape {

@@ -1,4 +1,4 @@
-package shard
+package shard_test
 
 import (
 	"hash/crc64"
@@ -8,6 +8,7 @@ import (
 	"testing"
 
 	"silo/api"
+	. "silo/shard"
 )
 
 func some(r *rand.Rand) api.Shard {

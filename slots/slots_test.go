@@ -1,4 +1,4 @@
-package slots
+package slots_test
 
 import (
 	"math/rand"
@@ -6,6 +6,7 @@ import (
 	"testing"
 
 	"silo/api"
+	. "silo/slots"
 )
 
 func same(a, b api.Slots) bool {
@@ -14,6 +15,24 @@ func same(a, b api.Slots) bool {
 
 func none(x api.Slots) bool {
 	return len(x.Live) == 0 && len(x.Free) == 0
+}
+
+// upTo is the numbers below n.
+func upTo(n int) []int {
+	l := []int{}
+	for i := range n {
+		l = append(l, i)
+	}
+	return l
+}
+
+// copied is slots of their own memory.
+func copied(x api.Slots) api.Slots {
+	y := api.Slots{Live: slices.Clone(x.Live)}
+	for _, free := range x.Free {
+		y.Free = append(y.Free, slices.Clone(free))
+	}
+	return y
 }
 
 // some is slots picked by r.

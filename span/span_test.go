@@ -1,4 +1,4 @@
-package span
+package span_test
 
 import (
 	"math/rand"
@@ -7,6 +7,7 @@ import (
 
 	"silo/api"
 	"silo/cut"
+	. "silo/span"
 )
 
 func TestPartsOfATextAreItsBytes(t *testing.T) {

@@ -1,4 +1,4 @@
-package spot
+package spot_test
 
 import (
 	"math/rand"
@@ -8,6 +8,7 @@ import (
 
 	"silo/api"
 	"silo/code"
+	. "silo/spot"
 )
 
 func pieces(r *rand.Rand, s api.Shape) []string {
