@@ -128,16 +128,17 @@ func (p *Pool) Add(t string, r api.Record) api.Errno {
 
 // tagged is tags behind records of tags: on the way there may be more than MaxTags.
 func tagged(tags []api.Tag, l []api.Record) ([]api.Tag, api.Errno) {
-	all := slices.Clone(tags)
+	all := map[string]api.Tag{}
+	for _, x := range tags {
+		all[x.Name] = x
+	}
 	for _, r := range l {
-		i, ok := slices.BinarySearchFunc(all, r.Name, func(x api.Tag, name string) int { return strings.Compare(x.Name, name) })
+		_, ok := all[r.Name]
 		switch {
-		case r.Kind == api.RecTag && ok:
-			all[i].Digest = r.Digest
 		case r.Kind == api.RecTag:
-			all = slices.Insert(all, i, api.Tag{Name: r.Name, Digest: r.Digest})
+			all[r.Name] = api.Tag{Name: r.Name, Digest: r.Digest}
 		case ok:
-			all = slices.Delete(all, i, i+1)
+			delete(all, r.Name)
 		default:
 			return nil, api.ErrNone
 		}
@@ -145,7 +146,12 @@ func tagged(tags []api.Tag, l []api.Record) ([]api.Tag, api.Errno) {
 	if len(all) > api.MaxTags {
 		return nil, api.ErrLimit
 	}
-	return all, api.OK
+	next := []api.Tag{}
+	for _, x := range all {
+		next = append(next, x)
+	}
+	slices.SortFunc(next, func(a api.Tag, b api.Tag) int { return strings.Compare(a.Name, b.Name) })
+	return next, api.OK
 }
 
 // Note brings and takes tags.

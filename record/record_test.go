@@ -74,6 +74,7 @@ func TestBytesByTheWords(t *testing.T) {
 	}{
 		{api.Record{Kind: 1, ID: 0x01020304, Slots: slots}, "\x01\x01\x02\x03\x04" + of},
 		{api.Record{Kind: 2, ID: 5, List: []int{0x10203, 1}, Slots: slots}, "\x02\x00\x00\x00\x05\x00\x00\x00\x02\x00\x01\x02\x03\x00\x00\x00\x01" + of},
+		{api.Record{Kind: 2, List: []int{0, api.MaxGen}, Slots: slots[:1]}, "\x02\x00\x00\x00\x00\x00\x00\x00\x02\x00\x00\x00\x00\x40\x00\x00\x00\x01" + of[1:9]},
 		{api.Record{Kind: 3, ID: api.MaxGen}, "\x03\x40\x00\x00\x00"},
 		{api.Record{Kind: 4, ID: 6, Digest: d, List: []int{7}}, "\x04\x00\x00\x00\x06" + d + "\x00\x00\x00\x01\x00\x00\x00\x07"},
 		{api.Record{Kind: 5, Digest: d}, "\x05\x00\x00\x00\x00" + d + "\x00\x00\x00\x00"},
