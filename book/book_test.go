@@ -66,6 +66,7 @@ func misfits() []api.Book {
 		func(b *api.Book) { b.Things[0].List = []int{0} }, func(b *api.Book) { b.Things[0].List = []int{0, 5} }, func(b *api.Book) { b.Things[0].List = []int{0, 0} }, func(b *api.Book) { b.Things[0].List = []int{3, 0} },
 		func(b *api.Book) { b.Things[0].List = []int{0, 3, 8} }, func(b *api.Book) { b.Things[1].List = []int{8} }, func(b *api.Book) { b.Things[1].Len, b.Things[1].List = 7, []int{4} }, func(b *api.Book) { b.Things[0].List = []int{-1, 3} },
 		func(b *api.Book) { b.Tags[0].Name = "a" }, func(b *api.Book) { b.Tags[0].Name = "b" }, func(b *api.Book) { b.Tags[0].Name = "" }, func(b *api.Book) { b.Tags[1].Name = strings.Repeat("x", 41) }, func(b *api.Book) { b.Tags[1].Digest = "c" },
+		func(b *api.Book) { b.Things = nil; b.Stripes[1].ID = 0 }, func(b *api.Book) { b.Things = nil; b.Stripes[1].ID = 5 }, func(b *api.Book) { b.Things = nil; b.Stripes[0].ID = -1 },
 		func(b *api.Book) { b.Things = many(61) }, func(b *api.Book) { b.Tags = tagged(41) },
 	} {
 		b := good()
@@ -115,7 +116,7 @@ func TestMisfits(t *testing.T) {
 	}
 	try("shape", api.Shape{K: 2, M: 1}, good())
 	try("shape of nothing", api.Shape{}, api.Book{})
-	if Check(s, good()) != api.OK || Check(s, api.Book{}) != api.OK || Check(s, api.Book{Next: api.MaxGen, Things: many(60), Tags: tagged(40)}) != api.OK {
+	if Check(s, good()) != api.OK || Check(s, api.Book{}) != api.OK || Check(s, api.Book{Next: api.MaxGen, Things: many(60), Tags: tagged(40)}) != api.OK || Check(s, api.Book{Tags: []api.Tag{{Name: strings.Repeat("x", 40), Digest: dig("a")}}}) != api.OK {
 		t.Errorf("good ones may be: %d", Check(s, good()))
 	}
 	for _, r := range []api.Record{{}, {Kind: api.RecFree, ID: -1}, {Kind: 9}} {
@@ -239,6 +240,18 @@ func TestLines(t *testing.T) {
 	exact.Next = 9
 	if l, _ := Lines(s, exact); l[0].Kind != api.RecCommit {
 		t.Errorf("nothing is ahead: %v", l[0])
+	}
+	one := api.Book{Stripes: []api.Stripe{{ID: 4, Len: 1, Place: at(0, 0)}}, Next: 5}
+	for next, want := range map[int][]int{5: {2}, 6: {1, 2}} {
+		one.Next = next
+		l, e := Lines(s, one)
+		kinds := []int{}
+		for _, r := range l {
+			kinds = append(kinds, r.Kind)
+		}
+		if !slices.Equal(kinds, want) || e != api.OK {
+			t.Errorf("one stripe, next %d: %v, %d", next, kinds, e)
+		}
 	}
 	for n, want := range map[int]int{0: 0, 1: 1, api.MaxGen: 1} {
 		if l, e := Lines(s, api.Book{Next: n}); len(l) != want || e != api.OK || want == 1 && l[0].ID != n-1 {

@@ -180,6 +180,37 @@ func TestHalf(t *testing.T) {
 	}
 }
 
+// TestNewDisksHaveNone: what Add and Reset write on disks that were replaced is no journal of theirs, till Open.
+func TestNewDisksHaveNone(t *testing.T) {
+	for gone := range 6 {
+		a := disks(t, 5)
+		j := made(t, a)
+		l := some(rand.New(rand.NewSource(36)), 3)
+		for d := range gone {
+			a.Replace(d)
+		}
+		want(t, "reset", j.Reset(l...), api.OK)
+		want(t, "add", j.Add(l...), api.OK)
+		k, e := Open(a)
+		if gone > 2 {
+			if k != nil || e != api.ErrBad {
+				t.Errorf("%d of 5 new: %d", gone, e)
+			}
+			continue
+		}
+		if k == nil || e != api.OK || !same(k.All(), append(copied(l), l...)) {
+			t.Fatalf("%d of 5 new: %d", gone, e)
+		}
+		// Now each has one: as many others may go.
+		for d := range 2 {
+			a.Replace(4 - d)
+		}
+		if k, e := Open(a); k == nil || e != api.OK || !same(k.All(), append(copied(l), l...)) {
+			t.Errorf("%d of 5 new, then two others: %d", gone, e)
+		}
+	}
+}
+
 // TestOpenLaysItOnAll: behind Open each disk has it, also a new one.
 func TestOpenLaysItOnAll(t *testing.T) {
 	a := disks(t, 5)

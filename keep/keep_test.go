@@ -324,6 +324,13 @@ func TestPoolsErrors(t *testing.T) {
 	if s := k.State(); len(s.Things) != 2 || len(s.Sessions) != 2 {
 		t.Errorf("nothing has changed: %v", s.Sessions)
 	}
+	// Behind the journal's error the pool is in no state for it, and behind that the store.
+	if r := k.Do(api.Op{Kind: api.OpSweep}); r != (api.Reply{Err: int(api.ErrState)}) {
+		t.Errorf("sweep again: %v", r)
+	}
+	if r := k.Do(api.Op{Kind: api.OpStart}); r != (api.Reply{Err: int(api.ErrState)}) {
+		t.Errorf("start: %v", r)
+	}
 }
 
 // TestMemory: what is told is new memory.

@@ -201,7 +201,15 @@ func TestMisfits(t *testing.T) {
 	if Check(good()) != api.OK || Check(api.State{}) != api.OK {
 		t.Fatalf("good ones may be")
 	}
+	// A blob names nothing, also where its text is a manifest's.
+	blob := laid(m)
+	blob.Things[0].Manifest = false
+	if Check(blob) != api.OK {
+		t.Errorf("a blob with a manifest's bytes: %d", Check(blob))
+	}
 	for i, change := range []func(*api.State){
+		func(s *api.State) { *s = laid("a", "b"); s.Things[0], s.Things[1] = s.Things[1], s.Things[0] }, func(s *api.State) { *s = laid("a"); s.Things = append(s.Things, s.Things[0]) },
+		func(s *api.State) { *s = laid(strings.Repeat("x", 2001)) },
 		func(s *api.State) { s.Things[0].Text += "x" }, func(s *api.State) { s.Things[0], s.Things[1] = s.Things[1], s.Things[0] }, func(s *api.State) { s.Things = laid(m).Things }, func(s *api.State) { s.Things = laid("a").Things },
 		func(s *api.State) { *s = laid(bytes(t, nil, []string{digest.Of("a")}), "a") }, func(s *api.State) { *s = laid(m, bytes(t, []string{digest.Of(m)}, nil), "a") },
 		func(s *api.State) { s.Tags[1].Name = "a" }, func(s *api.State) { s.Tags[0].Name = "c" }, func(s *api.State) { s.Tags[0].Name = "A" }, func(s *api.State) { s.Tags[0].Digest = digest.Of("a") }, func(s *api.State) { s.Tags[0].Digest = digest.Of("b") },

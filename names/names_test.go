@@ -55,7 +55,7 @@ func hold(t *testing.T, s string) {
 func TestNames(t *testing.T) {
 	for _, s := range []string{
 		"", "a", "a/b", "a:b", "/", "a/", "/a", "a//b", ":", "a:", ":a", "a:b:c", "a.b", "a..b", "a_b", "a__b", "a___b", "a-b", "a----b", "a-_b", "a._b", "a.-b", "a_.b",
-		".a", "a.", "-a", "a-", "_a", "a_", "A", "a/B", "a:B", "a:.b", "a:-b", "a:_b", "a:b.-_", "a:b/c", "a b", "a\x00", "é", "a:é", "a+b", "a:latest", "0/9:0", "a/b.c__d---e/f:V1.2-x_",
+		".a", "a.", "-a", "a-", "_a", "a_", "A", "a/B", "a:B", "a:.b", "a:-b", "a:_b", "a:b.-_", "a:b/c", "a b", "a\x00", "z/a:Z", "a:A", "a:az09AZ", "09az", "a:[", "a:@", "a:`", "a:{", "{", "`", "é", "a:é", "a+b", "a:latest", "0/9:0", "a/b.c__d---e/f:V1.2-x_",
 		strings.Repeat("a", 40), strings.Repeat("a", 41), strings.Repeat("a", 33), strings.Repeat("a", 34), strings.Repeat("a", 33) + ":latest", strings.Repeat("a", 34) + ":latest", "a:" + strings.Repeat("b", 38), "a:" + strings.Repeat("b", 39),
 	} {
 		hold(t, s)

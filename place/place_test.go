@@ -82,9 +82,9 @@ func TestCheck(t *testing.T) {
 	}
 	for _, bad := range []api.Slots{{}, {Live: []bool{true}, Free: [][]int{{1, 0}}}} {
 		_, _, e1 := Needs(s, good, bad, yes)
-		_, e2 := Spread(bad)
+		n, e2 := Spread(bad)
 		_, e3 := Shift(s, []api.Stripe{good}, bad)
-		if e1 != api.ErrForm || e2 != api.ErrForm || e3 != api.ErrForm {
+		if e1 != api.ErrForm || e2 != api.ErrForm || e3 != api.ErrForm || n != 0 {
 			t.Errorf("slots that may not be: %d, %d, %d", e1, e2, e3)
 		}
 	}
@@ -230,6 +230,17 @@ func TestShift(t *testing.T) {
 	n, e := Shift(s, l, x)
 	if want := (api.Need{Stripe: 5, Index: []int{2}, To: []api.Slot{{Disk: 2, At: 3}}}); !sameNeed(n, want) || e != api.OK {
 		t.Errorf("%v, %d", n, e)
+	}
+	// The first piece is as good as any: on full it goes, on empty the stripe is none.
+	l[2].Place = at(0, 3, 1)
+	n, e = Shift(s, l, x)
+	if want := (api.Need{Stripe: 5, Index: []int{0}, To: []api.Slot{{Disk: 2, At: 3}}}); !sameNeed(n, want) || e != api.OK {
+		t.Errorf("the first piece: %v, %d", n, e)
+	}
+	l[2].Place = at(2, 3, 0)
+	n, e = Shift(s, l, x)
+	if want := (api.Need{Stripe: 9, Index: []int{1}, To: []api.Slot{{Disk: 2, At: 3}}}); !sameNeed(n, want) || e != api.OK {
+		t.Errorf("the first piece, on empty: %v, %d", n, e)
 	}
 	none := []struct {
 		l []api.Stripe

@@ -119,6 +119,9 @@ func TestErrorsOfNewAndOpen(t *testing.T) {
 		{six, api.Shape{K: 6, M: 1, Size: 5}, 5, api.ErrFew}, {six, s, 11, api.ErrFull}, {six, api.Shape{K: 2, M: 1, Size: 110}, 10, api.ErrFull},
 		// 12 disks times 29, by 3, times 45 and 24: 116 times 69 is 8004.
 		{disks(t, 12, s, 29), s, 29, api.ErrForm}, {disks(t, 12, s, 28), s, 28, api.OK}, {disks(t, 12, s, 29), api.Shape{K: 1, M: 0, Size: 5}, 12, api.OK}, {disks(t, 12, s, 29), api.Shape{K: 1, M: 0, Size: 5}, 13, api.ErrForm},
+		// 12 disks times 54, by 10, times 45 and 80, is just 8000.
+		{disks(t, 12, s, 55), api.Shape{K: 8, M: 2, Size: 5}, 54, api.OK}, {disks(t, 12, s, 55), api.Shape{K: 8, M: 2, Size: 5}, 55, api.ErrForm},
+		{disks(t, 3, s, 1), s, 1, api.OK}, {disks(t, 3, s, 64), s, 64, api.OK}, {disks(t, 1, s, 64), api.Shape{K: 1, M: 0, Size: 1}, 65, api.ErrForm},
 		{disks(t, 11, s, 40), api.Shape{K: 8, M: 6, Size: 5}, 60, api.ErrFew},
 	}
 	for i, row := range rows {
@@ -719,6 +722,41 @@ func TestCrashes(t *testing.T) {
 				mend(t, p, s)
 			}
 		}
+	}
+}
+
+// TestCrashesWhereTheJournalIsFull: power goes while the journal is begun anew, too.
+func TestCrashesWhereTheJournalIsFull(t *testing.T) {
+	s := api.Shape{K: 1, M: 0, Size: 4}
+	tag := func(c byte) api.Record {
+		return api.Record{Kind: api.RecTag, Name: string([]byte{c}), Digest: digest.Of(string([]byte{c}))}
+	}
+	many := slices.Repeat([]api.Record{tag(1), {Kind: api.RecUntag, Name: "\x01"}}, 200)
+	told := 0
+	for off := 0; off < 1200; off += 7 {
+		a := disks(t, 1, s, 1)
+		p := made(t, a, s, 1)
+		want(t, "first", p.Note(append(slices.Clone(many), tag(2))...), api.OK)
+		want(t, "second", p.Note(append(slices.Clone(many), tag(3))...), api.OK)
+		before := p.Book()
+		a.Off(off)
+		e := p.Note(append(slices.Clone(many), tag(4))...)
+		after := p.Book()
+		if e != api.OK && (e != api.ErrOff || !same(after, before)) || e == api.OK && len(after.Tags) != 3 {
+			t.Fatalf("off %d: %d, %d tags", off, e, len(after.Tags))
+		}
+		if e == api.OK {
+			told++
+		}
+		a.Crash([]int{off % 2, 1, 1, off / 2 % 2})
+		b := opened(t, a, s, 1).Book()
+		if same(b, after) || e != api.OK && len(b.Tags) == 3 {
+			continue
+		}
+		t.Fatalf("off %d: %d, then %d tags", off, e, len(b.Tags))
+	}
+	if told == 0 || told > 160 {
+		t.Errorf("told OK: %d", told)
 	}
 }
 

@@ -85,6 +85,15 @@ func TestFromUsersOrder(t *testing.T) {
 	if from, e := From(l, []string{"", "a", dig('b') + "b"}); len(from) != 0 || e != api.OK {
 		t.Errorf("roots of any length: %v, %d", from, e)
 	}
+	// A blob names nothing, whatever its text is.
+	l = of(t, "a:b", "b", "c:/a")
+	l[0].Manifest = false
+	from, e := From(l, digs("a"))
+	users, f := Users(l, dig('b'))
+	order, g := Order(l)
+	if letters(from) != "a" || len(users) != 0 || letters(order) != "abc" || e != api.OK || f != api.OK || g != api.OK {
+		t.Errorf("a blob with a manifest's bytes: %q, %q, %q", letters(from), letters(users), letters(order))
+	}
 	if users, e := Users(l, ""); len(users) != 0 || e != api.OK {
 		t.Errorf("users of nothing: %v, %d", users, e)
 	}
