@@ -480,15 +480,6 @@ func TestTurnedBack(t *testing.T) {
 		a := disks(t, 5)
 		j := made(t, a)
 		want(t, "add", j.Add(some(r, 3)...), api.OK)
-		// A batch, and openings, that come to disk 0 alone.
-		a.Off(1 + r.Intn(9))
-		j.Add(some(r, 4)...)
-		a.Crash([]int{1})
-		for range r.Intn(3) {
-			a.Off(1 + r.Intn(30))
-			Open(a)
-			a.Crash([]int{r.Intn(2)})
-		}
 		bits := []int{}
 		for s := range api.Area {
 			bits = append(bits, 512*s+r.Intn(512))

@@ -165,7 +165,7 @@ func TestMoved(t *testing.T) {
 	for i, n := range []api.Need{
 		{Stripe: 8}, {Stripe: 7, Index: []int{0}}, {Stripe: 7, To: to(5)}, {Stripe: 7, Index: []int{1, 0}, To: to(5, 6)}, {Stripe: 7, Index: []int{1, 1}, To: to(5, 6)},
 		{Stripe: 7, Index: []int{4}, To: to(5)}, {Stripe: 7, Index: []int{-1}, To: to(5)}, {Stripe: 7, Index: []int{0}, To: to(1)}, {Stripe: 7, Index: []int{0, 2}, To: to(5, 5)},
-		{Stripe: 7, Index: []int{0}, To: to(-1)}, {Stripe: 7, Index: []int{0}, To: to(12)}, {Stripe: 7, Index: []int{0}, To: []api.Slot{{Disk: 5, At: 64}}}, {Stripe: 7, Index: []int{0}, To: []api.Slot{{Disk: 5, At: -1}}},
+		{Stripe: 7, Index: []int{0}, To: to(12)}, {Stripe: 7, Index: []int{0}, To: []api.Slot{{Disk: 5, At: 64}}}, {Stripe: 7, Index: []int{0}, To: []api.Slot{{Disk: 5, At: -1}}},
 	} {
 		if y, free, e := Moved(s, x, n); e != api.ErrForm || !sameStripe(y, api.Stripe{}) || len(free) != 0 {
 			t.Errorf("row %d: %d", i, e)
