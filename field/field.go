@@ -1,11 +1,7 @@
 // Package field: numbers from 0 to 255: see ../../shared/doc/01-field.md.
 package field
 
-import (
-	"iter"
-
-	"silo/api"
-)
+import "silo/api"
 
 // modulus is the field's polynomial without its highest power, which falls out of a byte by itself.
 const modulus = 0x1d
@@ -13,30 +9,9 @@ const modulus = 0x1d
 // order is how many numbers but 0 there are: so often 2 is multiplied by itself till it is 1 again.
 const order = 255
 
-// double is a times 2.
+// double is a times 2. It asks no question, nor does Mul: of bits of any data every other guess is wrong.
 func double(a byte) byte {
-	if a&0x80 != 0 {
-		return a<<1 ^ modulus
-	}
-	return a << 1
-}
-
-// doubles goes through a, doubled as often as the place of each bit of b that is 1 says.
-func doubles(a byte, b byte) iter.Seq[byte] {
-	return func(yield func(byte) bool) {
-		x := a
-	bits:
-		for rest := b; rest != 0; rest >>= 1 {
-			now := x
-			x = double(x)
-			if rest&1 == 0 {
-				continue bits
-			}
-			if !yield(now) {
-				return
-			}
-		}
-	}
+	return a<<1 ^ a>>7*modulus
 }
 
 // powers goes through the numbers but 0, each with how often 2 is multiplied to make it.
@@ -58,8 +33,9 @@ func Add(a byte, b byte) byte {
 // Mul multiplies.
 func Mul(a byte, b byte) byte {
 	sum := byte(0)
-	for x := range doubles(a, b) {
-		sum ^= x
+	for bit := range 8 {
+		sum = Add(sum, a*(b>>bit&1))
+		a = double(a)
 	}
 	return sum
 }
