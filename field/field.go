@@ -94,10 +94,11 @@ func Log(a byte) (int, api.Errno) {
 	log := 0
 search:
 	for n, x := range powers {
-		if x == a {
-			log = n
-			break search
+		if x != a {
+			continue search
 		}
+		log = n
+		break search
 	}
 	return log, api.OK
 }
